@@ -1,0 +1,1 @@
+"""Flowform: equivalence and smallest restructuring of control flow with labelled jumps."""
