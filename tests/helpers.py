@@ -42,11 +42,12 @@ def nots(depth):
 class Maker:
     """Makes programs, which need not resolve."""
 
-    def __init__(self, seed):
+    def __init__(self, seed, names=("a", "b", "x", "y1", "Long_name", "z" * 30)):
         self.random = random.Random(seed)
+        self.names = names
 
     def name(self):
-        return self.random.choice(["a", "b", "x", "y1", "Long_name", "z" * 30])
+        return self.random.choice(self.names)
 
     def condition(self, depth, outside=None):
         kinds = ["call", "flag"]

@@ -57,13 +57,16 @@ class OutcomesTest(unittest.TestCase):
     def test_plain_outcomes(self):
         self.check(["end", "return", "hang"], True)
         self.check(["", " ", "End", "HANG", "end ", " end", "return ", " return", "hang ", "end 1", "hang 1"], False)
-        self.check(["a()", "ready", "returns", "ends", "break", "continue", "stop", "end end", "hang a", "end a"], False)
+        self.check(["a()", "ready", "returns", "ends", "break", "continue", "stop", "end end", "hang a"], False)
 
     def test_numbers(self):
         self.check([f"return {number}" for number in range(100)], True)
         self.check([f"return 0{number}" for number in range(100)], False)
         wrong = "return 100;return 00;return 07;return -1;return 1 ;return  1;return x;return 1x;return 1.0"
         self.check(wrong.split(";"), False)
+        others = [chr(code) for code in range(32, 127) if chr(code) not in string.digits]
+        self.check([f"return {character}" for character in others], False)
+        self.check([f"return 1{character}" for character in others], False)
         self.check(["return7", "return +7", "return 7 7", "return 777", "return \t7", "returns 7"], False)
 
     def test_jumps(self):

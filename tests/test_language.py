@@ -1,0 +1,201 @@
+import ast
+import builtins
+import pathlib
+import re
+import unittest
+
+PACKAGE = pathlib.Path(__file__).resolve().parent.parent / "flowform"
+INTERFACE = {
+    "errors": "FlowError UnknownFlag FlagTwice OutsideOfLoop TextError TooManyFlags TooManyConfigurations "
+              "TooManyNodes TooManyPositions TryInFinally TooLarge NoStatement TooManyVersions RunOver",
+    "words": "is_name(text) is_outcome(text)",
+    "programs": "size(program) places(program) depths(program)",
+    "paths": "walk(program) statement_at(program,path) replaced(program,path,statements)",
+    "names": "resolve(program) jump_depth(resolved)",
+    "tokens": "tokens(text)",
+    "reader": "read_program(text) read_condition(text)",
+    "printer": "show_program(program) show_condition(condition)",
+    "templates": "fill(strings,parts)",
+}
+LIBRARY = ("heapq", "math", "itertools", "collections")
+BUILTINS = (
+    "len range enumerate zip min max sum abs sorted reversed int str bool bytes list tuple dict set frozenset "
+    "isinstance ord repr any all divmod pow getattr hasattr setattr iter next map Exception ValueError TypeError "
+    "KeyError IndexError LookupError ZeroDivisionError ArithmeticError OverflowError RuntimeError "
+    "NotImplementedError AttributeError StopIteration NotImplemented super property staticmethod classmethod"
+).split()
+METHODS = (
+    "append clear copy count endswith extend find get index insert isalnum isalpha isdigit islower isspace isupper "
+    "items join keys ljust lower lstrip partition pop remove replace reverse rfind rjust rpartition rsplit rstrip "
+    "setdefault split splitlines startswith strip update upper values zfill bit_length sort add discard __init__"
+).split()
+BARRED = (
+    "register mro elements open input law version_info with_traceback add_note typing typing_extensions enum Enum "
+    "IntEnum StrEnum Flag IntFlag Generic Protocol ABC ABCMeta namedtuple NamedTuple TypedDict TYPE_CHECKING "
+    "abstractmethod attrgetter breakpoint compile delattr dir eval exec exit gc globals help id importlib license "
+    "locals methodcaller os quit type vars sys __name__"
+).split()
+FUNCTIONS = (ast.FunctionDef, ast.Lambda)
+
+
+def parsed_files():
+    return {path: ast.parse(path.read_text()) for path in sorted(PACKAGE.glob("*.py"))}
+
+
+def bound_names(tree):
+    """Return all names that are given a meaning in a tree, but for its imports and attributes."""
+    names = []
+    for node in ast.walk(tree):
+        if isinstance(node, ast.Name) and isinstance(node.ctx, ast.Store):
+            names.append(node.id)
+        elif isinstance(node, ast.arg):
+            names.append(node.arg)
+        elif isinstance(node, ast.ExceptHandler) and node.name:
+            names.append(node.name)
+    return names
+
+
+class LanguageTest(unittest.TestCase):
+    """The rules on the form of the code that can be told from its text and its syntax tree."""
+
+    @classmethod
+    def setUpClass(cls):
+        cls.files = parsed_files()
+
+    def test_files(self):
+        self.assertTrue((PACKAGE / "__init__.py").exists())
+        for path in PACKAGE.iterdir():
+            if path.name != "__pycache__":
+                self.assertRegex(path.name, r"\A(__init__|[a-z][a-z0-9_]*)\.py\Z")
+        for path in self.files:
+            text = path.read_text()
+            lines = text.split("\n")
+            self.assertLessEqual(len(lines), 400, path)
+            self.assertTrue(all(len(line) <= 120 and line == line.rstrip() for line in lines), path)
+            self.assertTrue(all(" " <= character <= "~" or character == "\n" for character in text), path)
+            self.assertEqual(re.findall(r"\\[^nt\\'\"]", text), [], path)
+
+    def test_interface(self):
+        for name, listed in INTERFACE.items():
+            tree = self.files[PACKAGE / (name + ".py")]
+            defined = {}
+            for node in tree.body:
+                if isinstance(node, ast.ClassDef):
+                    defined[node.name] = node.name
+                elif isinstance(node, ast.FunctionDef):
+                    defined[node.name] = node.name + "(" + ",".join(arg.arg for arg in node.args.args) + ")"
+            for wanted in listed.split():
+                self.assertEqual(defined.get(wanted.partition("(")[0]), wanted, name)
+
+    def test_module_level(self):
+        for path, tree in self.files.items():
+            names = []
+            for node in tree.body:
+                docstring = node is tree.body[0] and isinstance(node, ast.Expr)
+                kinds = (ast.ImportFrom, ast.FunctionDef, ast.ClassDef, ast.Assign)
+                self.assertTrue(docstring or isinstance(node, kinds), path)
+                if isinstance(node, ast.Assign):
+                    self.assertEqual(len(node.targets), 1)
+                    ast.literal_eval(node.value)
+                    names.append(node.targets[0].id)
+                elif isinstance(node, (ast.FunctionDef, ast.ClassDef)):
+                    names.append(node.name)
+                elif isinstance(node, ast.ImportFrom):
+                    names += [alias.name for alias in node.names]
+            self.assertEqual(len(names), len(set(names)), path)
+
+    def test_imports(self):
+        imported_files = {}
+        for path, tree in self.files.items():
+            imported_files[path.stem] = []
+            for node in ast.walk(tree):
+                self.assertNotIsInstance(node, ast.Import)
+                if isinstance(node, ast.ImportFrom):
+                    self.assertEqual(node.level, 0)
+                    self.assertTrue(all(alias.asname is None for alias in node.names))
+                    if node.module not in LIBRARY:
+                        package, _, module = node.module.partition(".")
+                        self.assertEqual(package, "flowform")
+                        imported_files[path.stem].append(module)
+                        self.check_defined(module, [alias.name for alias in node.names])
+        done = []
+        while len(done) < len(imported_files):
+            ready = [name for name in imported_files if name not in done and set(imported_files[name]) <= set(done)]
+            self.assertNotEqual(ready, [], "two files import from each other")
+            done += ready
+
+    def check_defined(self, module, names):
+        tree = self.files[PACKAGE / (module + ".py")]
+        defined = [node.name for node in tree.body if isinstance(node, (ast.FunctionDef, ast.ClassDef))]
+        defined += [node.targets[0].id for node in tree.body if isinstance(node, ast.Assign)]
+        for name in names:
+            self.assertIn(name, defined)
+
+    def test_functions(self):
+        for path, tree in self.files.items():
+            for node in ast.walk(tree):
+                if isinstance(node, ast.FunctionDef):
+                    self.assertLessEqual(node.end_lineno - node.lineno + 1, 40, (path, node.name))
+
+    def test_names(self):
+        for path, tree in self.files.items():
+            used = [alias.name for node in ast.walk(tree) if isinstance(node, ast.ImportFrom) for alias in node.names]
+            used += [node.name for node in ast.walk(tree) if isinstance(node, ast.ClassDef)]
+            functions = [node.name for node in ast.walk(tree) if isinstance(node, (ast.FunctionDef, ast.ClassDef))]
+            for name in bound_names(tree):
+                self.assertNotIn(name, used, path)
+            for name in bound_names(tree) + functions:
+                self.assertFalse(name in vars(builtins), (path, name))
+                self.assertRegex(name, r"\A(_?[A-Za-z][A-Za-z0-9_]*|_|__[a-z]+__)\Z")
+            for node in ast.walk(tree):
+                if isinstance(node, ast.Name) and isinstance(node.ctx, ast.Load):
+                    self.assertNotEqual(node.id, "_", path)
+                    self.assertTrue(node.id in BUILTINS or node.id not in vars(builtins), (path, node.id))
+
+    def test_methods(self):
+        own = []
+        for tree in self.files.values():
+            for node in ast.walk(tree):
+                if isinstance(node, ast.ClassDef):
+                    own += [item.name for item in node.body if isinstance(item, ast.FunctionDef)]
+        for path, tree in self.files.items():
+            for node in ast.walk(tree):
+                if isinstance(node, ast.Call) and isinstance(node.func, ast.Attribute):
+                    self.assertIn(node.func.attr, METHODS + own, path)
+
+    def test_words_that_are_not_used(self):
+        for path, tree in self.files.items():
+            docstrings = [
+                node.body[0].value for node in ast.walk(tree)
+                if isinstance(node, (ast.Module, ast.ClassDef, ast.FunctionDef)) and ast.get_docstring(node)]
+            for node in ast.walk(tree):
+                if isinstance(node, ast.Constant) and isinstance(node.value, str):
+                    self.assertNotIn("%", node.value, path)
+                    self.assertFalse(node.value.endswith(("._", ".__")), path)
+                    words = [] if node in docstrings else re.findall(r"\w+", node.value)
+                elif isinstance(node, ast.Name):
+                    words = [node.id]
+                elif isinstance(node, ast.Attribute):
+                    words = [node.attr]
+                else:
+                    words = bound_names(node) if isinstance(node, FUNCTIONS) else []
+                for word in words:
+                    self.assertNotIn(word, BARRED, path)
+
+    def test_syntax(self):
+        wrong = (ast.Global, ast.AsyncFunctionDef, ast.Await, ast.Div, ast.MatMult)
+        for path, tree in self.files.items():
+            for node in ast.walk(tree):
+                self.assertNotIsInstance(node, wrong, path)
+                if isinstance(node, ast.Constant):
+                    self.assertNotIsInstance(node.value, (float, complex))
+                if isinstance(node, ast.Compare):
+                    for sign, right in zip(node.ops, node.comparators):
+                        if isinstance(sign, (ast.Is, ast.IsNot)):
+                            self.assertIn(ast.unparse(right), ("None", "True", "False"), path)
+                if isinstance(node, (ast.For, ast.comprehension)):
+                    self.assertNotIsInstance(node.iter, (ast.Set, ast.SetComp), path)
+
+
+if __name__ == "__main__":
+    unittest.main()
