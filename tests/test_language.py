@@ -16,7 +16,17 @@ INTERFACE = {
     "reader": "read_program(text) read_condition(text)",
     "printer": "show_program(program) show_condition(condition)",
     "templates": "fill(strings,parts)",
+    "running": "run(program,answers) Run",
+    "exploring": "explored(resolved)",
+    "graphs": "run_graph(graph,answers) event(graph,answers) classes(graph) minimal(graph) rooted(graph,node)",
+    "coding": "run_code(code,answers) code_graph(code)",
+    "assembling": "assembled(resolved)",
 }
+METHODS_OF_CLASSES = {
+    ("running", "Run"): "__init__(self,program) answer(self,value) event(self) is_over(self) answers(self) "
+                        "__len__(self) __iter__(self)",
+}
+PROPERTIES = {("running", "Run"): "event is_over answers"}
 LIBRARY = ("heapq", "math", "itertools", "collections")
 BUILTINS = (
     "len range enumerate zip min max sum abs sorted reversed int str bool bytes list tuple dict set frozenset "
@@ -27,7 +37,7 @@ BUILTINS = (
 METHODS = (
     "append clear copy count endswith extend find get index insert isalnum isalpha isdigit islower isspace isupper "
     "items join keys ljust lower lstrip partition pop remove replace reverse rfind rjust rpartition rsplit rstrip "
-    "setdefault split splitlines startswith strip update upper values zfill bit_length sort add discard __init__"
+    "setdefault split splitlines startswith strip update upper values zfill bit_length add discard __init__"
 ).split()
 BARRED = (
     "register mro elements open input law version_info with_traceback add_note typing typing_extensions enum Enum "
@@ -40,6 +50,11 @@ FUNCTIONS = (ast.FunctionDef, ast.Lambda)
 
 def parsed_files():
     return {path: ast.parse(path.read_text()) for path in sorted(PACKAGE.glob("*.py"))}
+
+
+def with_arguments(function):
+    """Return the name of a function and what it takes, as it is written."""
+    return function.name + "(" + ast.unparse(function.args).replace(" ", "") + ")"
 
 
 def bound_names(tree):
@@ -83,9 +98,64 @@ class LanguageTest(unittest.TestCase):
                 if isinstance(node, ast.ClassDef):
                     defined[node.name] = node.name
                 elif isinstance(node, ast.FunctionDef):
-                    defined[node.name] = node.name + "(" + ",".join(arg.arg for arg in node.args.args) + ")"
+                    defined[node.name] = with_arguments(node)
             for wanted in listed.split():
                 self.assertEqual(defined.get(wanted.partition("(")[0]), wanted, name)
+
+    def test_methods_of_the_interface(self):
+        for (module, name), listed in METHODS_OF_CLASSES.items():
+            tree = self.files[PACKAGE / (module + ".py")]
+            found = [node for node in tree.body if isinstance(node, ast.ClassDef) and node.name == name]
+            methods = [node for node in found[0].body if isinstance(node, ast.FunctionDef)]
+            self.assertEqual({with_arguments(node) for node in methods}, set(listed.split()))
+            decorated = {node.name for node in methods if node.decorator_list}
+            self.assertEqual(decorated, set(PROPERTIES[module, name].split()))
+
+    def test_decorators(self):
+        for path, tree in self.files.items():
+            for node in ast.walk(tree):
+                if isinstance(node, (ast.FunctionDef, ast.ClassDef)):
+                    self.assertIn([ast.unparse(one) for one in node.decorator_list], ([], ["property"]), path)
+
+    def test_double_underscore_methods(self):
+        for path, tree in self.files.items():
+            for node in ast.walk(tree):
+                if isinstance(node, ast.FunctionDef) and node.name == "__len__":
+                    self.assertRegex(ast.unparse(node.body[-1]), r"\Areturn len\(self\.\w+\)\Z", path)
+                elif isinstance(node, ast.FunctionDef) and node.name == "__iter__":
+                    self.assertRegex(ast.unparse(node), r"\Adef __iter__\(self\):\n +return iter\(self\.\w+\)\Z", path)
+
+    def test_properties_have_names_of_their_own(self):
+        functions = [node for tree in self.files.values() for node in ast.walk(tree) if isinstance(node, ast.ClassDef)]
+        methods = [item for node in functions for item in node.body if isinstance(item, ast.FunctionDef)]
+        properties = {item.name for item in methods if item.decorator_list}
+        self.assertEqual(properties & {item.name for item in methods if not item.decorator_list}, set())
+        for kind in (list, str, dict, set, int, tuple):
+            self.assertEqual(properties & set(dir(kind)), set())
+        for tree in self.files.values():
+            for node in ast.walk(tree):
+                if isinstance(node, ast.Attribute) and isinstance(node.ctx, ast.Store):
+                    self.assertNotIn(node.attr, properties)
+
+    def test_sets(self):
+        for path, tree in self.files.items():
+            made = {node.func.id for node in ast.walk(tree) if isinstance(node, ast.Call)
+                    and isinstance(node.func, ast.Name)}
+            self.assertNotIn("frozenset", made, path)
+            names = [node.targets[0].id for node in ast.walk(tree) if isinstance(node, ast.Assign)
+                     and ast.unparse(node.value).startswith("set(")]
+            for function in [node for node in ast.walk(tree) if isinstance(node, ast.FunctionDef)]:
+                for node in ast.walk(function):
+                    if isinstance(node, (ast.For, ast.comprehension)) and isinstance(node.iter, ast.Name):
+                        self.assertNotIn(node.iter.id, names, path)
+                    if isinstance(node, ast.Return) and isinstance(node.value, ast.Name):
+                        self.assertNotIn(node.value.id, names, path)
+
+    def test_exponents(self):
+        for path, tree in self.files.items():
+            for node in ast.walk(tree):
+                if isinstance(node, ast.BinOp) and isinstance(node.op, ast.Pow):
+                    self.assertIsInstance(node.right, ast.Constant, path)
 
     def test_module_level(self):
         for path, tree in self.files.items():
