@@ -21,6 +21,11 @@ INTERFACE = {
     "graphs": "run_graph(graph,answers) event(graph,answers) classes(graph) minimal(graph) rooted(graph,node)",
     "coding": "run_code(code,answers) code_graph(code)",
     "assembling": "assembled(resolved)",
+    "copying": "without_try(resolved)",
+    "flows": "flow_graph(program)",
+    "comparing": "compare(first,second) matching(first,second) check_matching(first,second,pairs)",
+    "stores": "observe(graph,meaning,store,*,most) experiment(first,second)",
+    "suites": "suite(graph,*,extra=0)",
 }
 METHODS_OF_CLASSES = {
     ("running", "Run"): "__init__(self,program) answer(self,value) event(self) is_over(self) answers(self) "
