@@ -10,8 +10,20 @@ def assembled(resolved):
     In the code of a program with try, each call that is not in the last body of a try stands once, and each
     one that is there stands once for each way in which the body of this try can be completed.
     """
+    return assembled_block(resolved, "end", ())
+
+
+def assembled_block(block, behind, loops):
+    """Return code with the behaviour of a block whose jumps may lead to loops around it.
+
+    The code stops where the block is completed: with the outcome behind if it is completed normally, and with
+    one of the two outcomes of a loop around it if it is completed by a continue or by a break to this loop.
+    loops are the pairs of these two outcomes, that of the innermost loop first.
+    """
     assembler = Assembler()
-    start = assembler.put_body(resolved, assembler.put(("stop", "end")), ())
+    last = assembler.put(("stop", behind))
+    around = [LoopAround(assembler.put(("stop", again)), assembler.put(("stop", after))) for again, after in loops]
+    start = assembler.put_body(block, last, tuple(around))
     assembler.put_copies()
     return _ordered(assembler.code, start)
 

@@ -209,8 +209,9 @@ class Hangs(Exception):
 class Interpreter:
     """Executes a resolved program statement by statement, as [80] to [82] say it, with the configurations of [90]."""
 
-    def __init__(self, answers):
+    def __init__(self, answers, most_rounds=5000):
         self.answers = answers
+        self.most_rounds = most_rounds
         self.events = []
         self.flags = [False] * 4
         self.completion = "outside of a last"
@@ -283,7 +284,7 @@ class Interpreter:
     def loop(self, loop, place):
         while True:
             self.rounds += 1
-            if self.rounds > 5000:
+            if self.rounds > self.most_rounds:
                 raise Hangs
             if loop[0] == "while" and not self.condition(loop[2], place + ("condition",)):
                 return None

@@ -26,12 +26,28 @@ INTERFACE = {
     "comparing": "compare(first,second) matching(first,second) check_matching(first,second,pairs)",
     "stores": "observe(graph,meaning,store,*,most) experiment(first,second)",
     "suites": "suite(graph,*,extra=0)",
+    "conditions": "leads(graph,condition,node) earlier_condition(first,second) first_conditions(graph) "
+                  "first_condition(graph,node,if_true,if_false)",
+    "positions": "position_count(graph,depth) positions(graph,depth) possible(graph,depth,known)",
+    "sizes": "least_sizes(graph,depth) least_size(graph,depth) check_sizes(graph,depth,sizes)",
+    "behaving": "behaves(graph,place,block)",
+    "ordering": "earlier_block(first,second)",
+    "blocks": "first_block(graph,depth,position) smallest(graph,depth)",
+    "naming": "named(resolved)",
+    "restructuring": "restructure(graph,depth) structured(graph) with_flags(graph)",
+    "refutations": "refute(graph,depth) check_refutation(graph,depth,triples)",
+    "sessions": "redundant(program) reduced(program) Session",
 }
 METHODS_OF_CLASSES = {
     ("running", "Run"): "__init__(self,program) answer(self,value) event(self) is_over(self) answers(self) "
                         "__len__(self) __iter__(self)",
+    ("sessions", "Session"): "__init__(self,program) replace_at(self,path,statements) replace_text(self,path,text) "
+                             "undo(self) redo(self) program(self) versions(self) flow(self) __len__(self) "
+                             "__iter__(self)",
 }
-PROPERTIES = {("running", "Run"): "event is_over answers"}
+PROPERTIES = {("running", "Run"): "event is_over answers", ("sessions", "Session"): "program versions flow"}
+GENERATORS = {"walk", "first_conditions", "positions"}
+CALLED_BY_NAME_ONLY = {"heappush", "heappop", "heapify"}
 LIBRARY = ("heapq", "math", "itertools", "collections")
 BUILTINS = (
     "len range enumerate zip min max sum abs sorted reversed int str bool bytes list tuple dict set frozenset "
@@ -73,6 +89,11 @@ def bound_names(tree):
         elif isinstance(node, ast.ExceptHandler) and node.name:
             names.append(node.name)
     return names
+
+
+def has_yield(function):
+    """Return True if the function itself is a generator."""
+    return any(isinstance(node, (ast.Yield, ast.YieldFrom)) for node in ast.walk(function))
 
 
 class LanguageTest(unittest.TestCase):
@@ -161,6 +182,43 @@ class LanguageTest(unittest.TestCase):
             for node in ast.walk(tree):
                 if isinstance(node, ast.BinOp) and isinstance(node.op, ast.Pow):
                     self.assertIsInstance(node.right, ast.Constant, path)
+
+    def test_generators(self):
+        """Generators are iterated at once, and nothing else has the name of one that the interface lists."""
+        makers = {node.name for tree in self.files.values() for node in ast.walk(tree)
+                  if isinstance(node, ast.FunctionDef) and has_yield(node)}
+        self.assertLessEqual(GENERATORS, makers)
+        for path, tree in self.files.items():
+            iterated = []
+            for node in ast.walk(tree):
+                if isinstance(node, (ast.For, ast.comprehension)):
+                    iterated.append(node.iter)
+                elif isinstance(node, ast.YieldFrom):
+                    iterated.append(node.value)
+                self.assertNotIsInstance(node, ast.GeneratorExp, path)
+            for node in ast.walk(tree):
+                if isinstance(node, ast.Call) and isinstance(node.func, ast.Name) and node.func.id in makers:
+                    self.assertIn(node, iterated, path)
+            self.assertEqual(makers & set(bound_names(tree)), set(), path)
+        names = [node.name for tree in self.files.values() for node in ast.walk(tree)
+                 if isinstance(node, ast.FunctionDef)]
+        for name in makers:
+            self.assertEqual(names.count(name), 1)
+
+    def test_names_of_the_library(self):
+        for path, tree in self.files.items():
+            called = [node.func for node in ast.walk(tree) if isinstance(node, ast.Call)]
+            for node in ast.walk(tree):
+                if isinstance(node, ast.Name) and node.id in CALLED_BY_NAME_ONLY:
+                    self.assertIn(node, called, path)
+
+    def test_methods_and_attributes_have_different_names(self):
+        classes = [node for tree in self.files.values() for node in ast.walk(tree) if isinstance(node, ast.ClassDef)]
+        methods = {item.name for node in classes for item in node.body if isinstance(item, ast.FunctionDef)}
+        for tree in self.files.values():
+            for node in ast.walk(tree):
+                if isinstance(node, ast.Attribute) and isinstance(node.ctx, ast.Store):
+                    self.assertNotIn(node.attr, methods)
 
     def test_module_level(self):
         for path, tree in self.files.items():
