@@ -3,12 +3,33 @@
 import itertools
 import random
 
+from flowform.flows import flow_graph
 from flowform.names import resolve
 from flowform.reader import read_program
 
 A = ("call", "a")
 B = ("call", "b")
 C = ("call", "c")
+BREAK = ("break", 1)
+CONTINUE = ("continue", 1)
+STOP = ("stop", "return")
+
+
+def when(condition, first, second=()):
+    return ("if", condition, first, second)
+
+
+def loop(*body):
+    return ("for", None, body)
+
+
+def during(condition, *body):
+    return ("while", None, condition, body)
+
+
+def flow(text):
+    """Return the flow graph of the program that the text denotes."""
+    return flow_graph(read_program(text))
 
 
 def raised(function, *arguments):

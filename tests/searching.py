@@ -17,6 +17,20 @@ def call(name, if_true, if_false):
     return ("call", name, if_true, if_false)
 
 
+# The flow graphs of [145], of while (a()) b();, and of [183].
+ROWS = (call("row", 1, 4), call("cell", 2, 3), call("bad", 0, 1), call("good", 0, 0), END)
+ONE = (call("a", 1, 2), call("b", 0, 0), END)
+BREAKS = (call("a", 3, 1), call("b", 2, 0), call("c", 3, 3), END)
+
+# Their names are the least sizes of programs with the jump depth 1.
+FORTY = (
+    call("g", 1, 2), call("f", 0, 3), call("d", 4, 5), call("a", 3, 4), call("a", 5, 7), call("d", 6, 4),
+    call("h", 1, 0), END)
+FORTY_ONE = (
+    call("h", 1, 2), call("e", 2, 3), call("d", 4, 3), call("a", 5, 1), call("h", 5, 7), call("b", 3, 6),
+    call("e", 0, 3), END)
+
+
 def row_graph(calls, outcomes, names="abcdefghijklm"):
     """Return a minimal flow graph with so many calls and these outcomes, at most one more than there are calls.
 
@@ -199,11 +213,17 @@ def compare_outcomes(first, second):
     return order(int(one), int(other)) if kind(first) == 1 else order(one, other)
 
 
+def has_other_negations(block):
+    """Return True if more than calls are negated in a block."""
+    text = repr(block)
+    return any(f"('not', ('{kind}'" in text for kind in ("not", "and", "or"))
+
+
 @functools.cache
 def all_statements(names, outcomes, size, loops, depth):
-    """Return all statements of a size in which only calls are negated and no part is useless in all places.
+    """Return all statements of a size in which only calls are negated, and stops have one of the outcomes.
 
-    With so many loops around, of which jumps lead at most to the depth-th one.
+    There are so many loops around them to which jumps may lead, in loops inside of them up to the depth.
     """
     found = []
     if size == 1:
@@ -226,7 +246,7 @@ def all_statements(names, outcomes, size, loops, depth):
 
 @functools.cache
 def all_blocks(names, outcomes, size, loops, depth):
-    """Return all blocks of a size, in the sense of all_statements."""
+    """Return all blocks of a size that consist of such statements as those of all_statements."""
     if size == 0:
         return [()]
     return [(first,) + rest for first_size in range(1, size + 1)
@@ -360,3 +380,30 @@ def plain_sizes(nodes, depth):
         if after == work:
             return work
         work = after
+
+
+def plain_possible(nodes, depth, known):
+    """Return the set of the positions where a block is possible, as [163] says it."""
+    conditions = list(leads_from(nodes, 1000))
+
+    def block(node, behind, loops):
+        if node == behind:
+            return True
+        if node < len(nodes) and node in itertools.chain(*loops):
+            return True
+        if node < len(nodes) and nodes[node][0] == "outcome":
+            return nodes[node] != END
+        return (node, behind, loops) in known
+
+    def statement(node, behind, loops):
+        inner = (((node, behind),) + loops)[:depth]
+        if nodes[node][2:] == (behind, behind) or (node, node, inner) in known:
+            return True
+        return any(
+            block(if_true, behind, loops) and block(if_false, behind, loops)
+            or if_false == behind and block(if_true, node, inner)
+            for start, if_true, if_false in conditions if start == node)
+
+    every = range(continuation_count(nodes))
+    return {(node, behind, loops) for node, behind in all_loops(nodes) for loops in all_rows(nodes, depth)
+            if any(block(after, behind, loops) and statement(node, after, loops) for after in every)}

@@ -5,25 +5,13 @@ import unittest
 from flowform.behaving import behaves
 from flowform.exploring import explored
 from flowform.graphs import minimal
-from tests.helpers import A, B, C, ResolvedMaker, read
+from tests.helpers import A, B, BREAK, C, CONTINUE, STOP, ResolvedMaker, loop, read, when
 from tests.searching import (
-    END, HANG, RETURN, all_blocks, all_loops, any_graph, call, call_count, continuation_count, endings, fits,
+    END, HANG, RETURN, ROWS, all_blocks, all_loops, any_graph, call, call_count, continuation_count, endings, fits,
     plain_behaves,
 )
 
-ROWS = (call("row", 1, 4), call("cell", 2, 3), call("bad", 0, 1), call("good", 0, 0), END)
-BREAK = ("break", 1)
-CONTINUE = ("continue", 1)
-STOP = ("stop", "return")
 FOREVER = ("for", None, ())
-
-
-def when(condition, first, second=()):
-    return ("if", condition, first, second)
-
-
-def loop(*body):
-    return ("for", None, body)
 
 
 class BehavesTest(unittest.TestCase):

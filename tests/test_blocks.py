@@ -5,54 +5,17 @@ import unittest.mock
 from flowform.blocks import first_block, smallest
 from flowform.errors import TooLarge, TooManyPositions
 from flowform.exploring import explored
-from flowform.flows import flow_graph
 from flowform.graphs import minimal
 from flowform.names import jump_depth
 from flowform.positions import position_count, positions
 from flowform.programs import depths, places, size
-from flowform.reader import read_program
 from flowform.restructuring import restructure
 from flowform.sizes import least_size, least_sizes
-from tests.helpers import A, B, C, ResolvedMaker, raised, read
+from tests.helpers import A, B, BREAK, C, CONTINUE, STOP, ResolvedMaker, during, flow, loop, raised, read, when
 from tests.searching import (
-    END, HANG, RETURN, all_blocks, all_rows, any_graph, call, call_count, compare_blocks, continuation_count,
-    endings, fits, plain_behaves, row_graph, target_of,
+    BREAKS, END, FORTY, FORTY_ONE, HANG, RETURN, ROWS, all_blocks, all_rows, any_graph, call, call_count,
+    compare_blocks, continuation_count, endings, fits, has_other_negations, plain_behaves, row_graph, target_of,
 )
-
-ROWS = (call("row", 1, 4), call("cell", 2, 3), call("bad", 0, 1), call("good", 0, 0), END)
-BREAKS = (call("a", 3, 1), call("b", 2, 0), call("c", 3, 3), END)
-BREAK = ("break", 1)
-CONTINUE = ("continue", 1)
-STOP = ("stop", "return")
-
-# Least sizes of programs with the jump depth 1.
-FORTY = (
-    call("g", 1, 2), call("f", 0, 3), call("d", 4, 5), call("a", 3, 4), call("a", 5, 7), call("d", 6, 4),
-    call("h", 1, 0), END)
-FORTY_ONE = (
-    call("h", 1, 2), call("e", 2, 3), call("d", 4, 3), call("a", 5, 1), call("h", 5, 7), call("b", 3, 6),
-    call("e", 0, 3), END)
-
-
-def flow(text):
-    return flow_graph(read_program(text))
-
-
-def when(condition, first, second=()):
-    return ("if", condition, first, second)
-
-
-def loop(*body):
-    return ("for", None, body)
-
-
-def during(condition, *body):
-    return ("while", None, condition, body)
-
-
-def has_other_negations(block):
-    text = repr(block)
-    return any(f"('not', ('{kind}'" in text for kind in ("not", "and", "or"))
 
 
 class FirstBlockTest(unittest.TestCase):

@@ -1,20 +1,13 @@
 import unittest
 
 from flowform.comparing import check_matching, compare, matching
-from flowform.flows import flow_graph
 from flowform.graphs import event, minimal, run_graph
-from flowform.reader import read_program
-from tests.helpers import all_graphs, random_graph, rows_of_answers
+from tests.helpers import all_graphs, flow, random_graph, rows_of_answers
 
 END = ("outcome", "end")
 HANG = ("outcome", "hang")
 RETURN = ("outcome", "return")
 DOUBLED = (("call", "a", 1, 3), ("call", "b", 2, 0), ("call", "a", 1, 3), END)
-
-
-def flow(text):
-    return flow_graph(read_program(text))
-
 
 ONE = flow("while (a()) b();")
 TWO = flow("while (a()) { b(); b(); }")

@@ -12,11 +12,9 @@ from flowform.programs import part_count, part_depth
 from flowform.reader import read_condition, read_program
 from tests.helpers import A, B, C, Maker, raised, random_graph
 from tests.searching import (
-    END, all_conditions, any_graph, call, call_count, compare_conditions, condition_size, leads_from, plain_leads,
-    row_graph,
+    END, ROWS, all_conditions, any_graph, call, call_count, compare_conditions, condition_size, leads_from,
+    plain_leads, row_graph,
 )
-
-ROWS = (call("row", 1, 4), call("cell", 2, 3), call("bad", 0, 1), call("good", 0, 0), END)
 
 # From node 0 some first conditions have more than 60 parts, and others 60 or fewer.
 LARGE = (

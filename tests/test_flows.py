@@ -11,14 +11,10 @@ from flowform.names import resolve
 from flowform.reader import read_program
 from flowform.running import run
 from flowform.templates import fill
-from tests.helpers import A, ResolvedMaker, raised, rows_of_answers, with_names
+from tests.helpers import A, ResolvedMaker, flow, raised, rows_of_answers, with_names
 
 END = ("outcome", "end")
 FOUR_FLAGS = "let a = true; let b = true; let c = true; let d = true; "
-
-
-def flow(text):
-    return flow_graph(read_program(text))
 
 
 class FlowGraphTest(unittest.TestCase):

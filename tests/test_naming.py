@@ -5,28 +5,13 @@ from flowform.errors import FlowError
 from flowform.exploring import explored
 from flowform.flows import flow_graph
 from flowform.graphs import minimal
-from flowform.naming import named
 from flowform.names import resolve
+from flowform.naming import named
 from flowform.paths import statement_at, walk
 from flowform.printer import show_program
 from flowform.programs import depths, places, size
 from flowform.reader import read_program
-from tests.helpers import A, B, ResolvedMaker, nots, raised
-
-BREAK = ("break", 1)
-CONTINUE = ("continue", 1)
-
-
-def when(condition, first, second=()):
-    return ("if", condition, first, second)
-
-
-def loop(*body):
-    return ("for", None, body)
-
-
-def during(condition, *body):
-    return ("while", None, condition, body)
+from tests.helpers import A, B, BREAK, CONTINUE, ResolvedMaker, during, loop, nots, raised, when
 
 
 class NamedTest(unittest.TestCase):

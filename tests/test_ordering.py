@@ -3,25 +3,10 @@ import random
 import unittest
 
 from flowform.ordering import earlier_block
-from tests.helpers import A, B, C, ResolvedMaker, nots, read
-from tests.searching import all_blocks, block_size, compare_blocks
+from tests.helpers import A, B, BREAK, C, CONTINUE, STOP, ResolvedMaker, during, loop, nots, read, when
+from tests.searching import all_blocks, block_size, compare_blocks, has_other_negations
 
-BREAK = ("break", 1)
-CONTINUE = ("continue", 1)
-STOP = ("stop", "return")
 NOT_A = ("not", A)
-
-
-def when(condition, first, second=()):
-    return ("if", condition, first, second)
-
-
-def loop(*body):
-    return ("for", None, body)
-
-
-def during(condition, *body):
-    return ("while", None, condition, body)
 
 
 class EarlierBlockTest(unittest.TestCase):
@@ -155,11 +140,6 @@ class EarlierBlockTest(unittest.TestCase):
         long = ("and", (A,) * 197)
         self.check_row((during(long),), (during(("and", (A,) * 196 + (B,))),), (during(("or", (A,) * 197)),))
         self.check_row((when(A, ()),), (when(nots(1), ()),))
-
-
-def has_other_negations(block):
-    text = repr(block)
-    return "('not', ('not'" in text or "('not', ('and'" in text or "('not', ('or'" in text
 
 
 if __name__ == "__main__":

@@ -1,4 +1,3 @@
-import itertools
 import random
 import types
 import unittest
@@ -12,12 +11,9 @@ from flowform.restructuring import restructure
 from flowform.sizes import check_sizes, least_size, least_sizes
 from tests.helpers import raised
 from tests.searching import (
-    END, RETURN, all_loops, all_positions, all_rows, any_graph, call, call_count, continuation_count, leads_from,
-    row_graph,
+    END, ONE, RETURN, ROWS, all_positions, any_graph, call, call_count, plain_possible, row_graph,
 )
 
-ROWS = (call("row", 1, 4), call("cell", 2, 3), call("bad", 0, 1), call("good", 0, 0), END)
-ONE = (call("a", 1, 2), call("b", 0, 0), END)
 OUTCOMES = ("end", "hang", "return", "return 1", "break x", "continue x", "break y")
 
 # The bounds: the number of calls, that of outcomes, the depth, and (k * t) ** (depth + 1).
@@ -143,33 +139,6 @@ class PositionsTest(unittest.TestCase):
             self.assertEqual(max(len(loops) for _, _, loops in found), depth)
             last = (calls - 1, len(graph) - 1)
             self.assertEqual(found[-1], (*last, (last,) * depth))
-
-
-def plain_possible(nodes, depth, known):
-    """Return the set of the positions where a block is possible, as [163] says it."""
-    conditions = list(leads_from(nodes, 1000))
-
-    def block(node, behind, loops):
-        if node == behind:
-            return True
-        if node < len(nodes) and node in itertools.chain(*loops):
-            return True
-        if node < len(nodes) and nodes[node][0] == "outcome":
-            return nodes[node] != END
-        return (node, behind, loops) in known
-
-    def statement(node, behind, loops):
-        inner = (((node, behind),) + loops)[:depth]
-        if nodes[node][2:] == (behind, behind) or (node, node, inner) in known:
-            return True
-        return any(
-            block(if_true, behind, loops) and block(if_false, behind, loops)
-            or if_false == behind and block(if_true, node, inner)
-            for start, if_true, if_false in conditions if start == node)
-
-    every = range(continuation_count(nodes))
-    return {(node, behind, loops) for node, behind in all_loops(nodes) for loops in all_rows(nodes, depth)
-            if any(block(after, behind, loops) and statement(node, after, loops) for after in every)}
 
 
 class PossibleTest(unittest.TestCase):

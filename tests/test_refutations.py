@@ -4,25 +4,15 @@ import unittest
 
 from flowform.blocks import smallest
 from flowform.errors import TooLarge, TooManyPositions
-from flowform.flows import flow_graph
 from flowform.graphs import minimal
 from flowform.positions import position_count, positions
-from flowform.reader import read_program
 from flowform.refutations import check_refutation, refute
 from flowform.sizes import least_size, least_sizes
-from tests.helpers import raised
+from tests.helpers import flow, raised
 from tests.searching import (
-    END, HANG, RETURN, all_blocks, any_graph, call, call_count, endings, fits, row_graph, target_of,
+    BREAKS, END, FORTY_ONE, HANG, RETURN, ROWS, all_blocks, any_graph, call, call_count, endings, fits,
+    plain_possible, row_graph, target_of,
 )
-from tests.test_positions import plain_possible
-
-ROWS = (call("row", 1, 4), call("cell", 2, 3), call("bad", 0, 1), call("good", 0, 0), END)
-BREAKS = (call("a", 3, 1), call("b", 2, 0), call("c", 3, 3), END)
-
-
-def flow(text):
-    return flow_graph(read_program(text))
-
 
 # For these there is no program with the jump depth 1.
 FIVE = (call("a", 1, 2), call("g", 3, 4), call("a", 5, 4), call("c", 1, 5), call("h", 0, 4), END)
@@ -79,11 +69,8 @@ class RefuteTest(unittest.TestCase):
         self.assertGreater(refuted, 15)
 
     def test_programs_that_are_too_large_are_programs(self):
-        graph = (
-            call("h", 1, 2), call("e", 2, 3), call("d", 4, 3), call("a", 5, 1), call("h", 5, 7), call("b", 3, 6),
-            call("e", 0, 3), END)
-        self.assertIs(raised(smallest, graph, 1).__class__, TooLarge)
-        self.assertIsNone(refute(graph, 1))
+        self.assertIs(raised(smallest, FORTY_ONE, 1).__class__, TooLarge)
+        self.assertIsNone(refute(FORTY_ONE, 1))
 
     def test_no_small_block_realizes_a_position(self):
         for graph, depth in graphs_without_programs()[:12]:

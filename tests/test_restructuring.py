@@ -7,8 +7,8 @@ from flowform.errors import TooLarge, TooManyPositions
 from flowform.exploring import explored
 from flowform.flows import flow_graph
 from flowform.graphs import minimal, run_graph
-from flowform.naming import named
 from flowform.names import jump_depth, resolve
+from flowform.naming import named
 from flowform.paths import walk
 from flowform.positions import position_count
 from flowform.printer import show_program
@@ -17,16 +17,10 @@ from flowform.reader import read_program
 from flowform.restructuring import restructure, structured, with_flags
 from flowform.running import run
 from flowform.sizes import least_size
-from tests.helpers import A, ResolvedMaker, plain_events, raised, random_graph, rows_of_answers, with_names
-from tests.searching import END, HANG, RETURN, any_graph, call, call_count, row_graph
+from tests.helpers import A, ResolvedMaker, flow, plain_events, raised, random_graph, rows_of_answers, with_names
+from tests.searching import BREAKS, END, FORTY_ONE, HANG, RETURN, ROWS, any_graph, call, call_count, row_graph
 
-ROWS = (call("row", 1, 4), call("cell", 2, 3), call("bad", 0, 1), call("good", 0, 0), END)
-BREAKS = (call("a", 3, 1), call("b", 2, 0), call("c", 3, 3), END)
 OUTCOMES = ("end", "hang", "return", "return 7", "break x", "continue x", "break loop1")
-
-
-def flow(text):
-    return flow_graph(read_program(text))
 
 
 def behaviour(resolved):
@@ -130,10 +124,7 @@ class RestructureTest(unittest.TestCase):
     def test_errors(self):
         self.assertEqual(raised(restructure, row_graph(10, ("end",)), 0).count, 110)
         self.assertIs(raised(restructure, row_graph(10, ("end",)), 2).__class__, TooManyPositions)
-        graph = (
-            call("h", 1, 2), call("e", 2, 3), call("d", 4, 3), call("a", 5, 1), call("h", 5, 7), call("b", 3, 6),
-            call("e", 0, 3), END)
-        self.assertIs(raised(restructure, graph, 1).__class__, TooLarge)
+        self.assertIs(raised(restructure, FORTY_ONE, 1).__class__, TooLarge)
 
 
 class StructuredTest(unittest.TestCase):

@@ -1,31 +1,14 @@
 import random
 import unittest
 
-from flowform.flows import flow_graph
 from flowform.graphs import minimal
 from flowform.positions import position_count, positions
-from flowform.reader import read_program
 from flowform.sizes import check_sizes, least_size, least_sizes
-from tests.helpers import raised
+from tests.helpers import flow, raised
 from tests.searching import (
-    END, HANG, RETURN, all_blocks, all_rows, any_graph, call, call_count, continuation_count, endings, fits,
-    leads_from, plain_right_sides, plain_sizes, row_graph,
+    BREAKS, END, FORTY, FORTY_ONE, HANG, ONE, RETURN, ROWS, all_blocks, all_rows, any_graph, call, call_count,
+    continuation_count, endings, fits, leads_from, plain_right_sides, plain_sizes, row_graph,
 )
-
-ROWS = (call("row", 1, 4), call("cell", 2, 3), call("bad", 0, 1), call("good", 0, 0), END)
-ONE = (call("a", 1, 2), call("b", 0, 0), END)
-BREAKS = (call("a", 3, 1), call("b", 2, 0), call("c", 3, 3), END)
-
-FORTY = (
-    call("g", 1, 2), call("f", 0, 3), call("d", 4, 5), call("a", 3, 4), call("a", 5, 7), call("d", 6, 4),
-    call("h", 1, 0), END)
-FORTY_ONE = (
-    call("h", 1, 2), call("e", 2, 3), call("d", 4, 3), call("a", 5, 1), call("h", 5, 7), call("b", 3, 6),
-    call("e", 0, 3), END)
-
-
-def flow(text):
-    return flow_graph(read_program(text))
 
 
 class LeastSizesTest(unittest.TestCase):
@@ -230,7 +213,17 @@ class CheckSizesTest(unittest.TestCase):
             self.assertIs(check_sizes(ONE, 1, least_sizes(ONE, 1) + (((0, 0, loops), 1),)), False)
 
     def test_sizes_below_1_where_nothing_else_is_wrong(self):
-        # Sizes from 0 on, with which the equations hold at (0, 0, ()) and (0, 1, ()).
+        """With these sizes all equations hold, for example -3 = 1 + 1 + -3 + 1 + -3 for an if in the first one."""
+        for graph, sizes in (
+            ((call("a", 0, 0),), (1, -3)),
+            ((call("a", 1, 0), RETURN), (-1, -4, -1)),
+            ((call("a", 0, 1), RETURN), (-1, -4, -1)),
+            ((call("b", 2, 1), call("a", 0, 2), END), (-1, -1, 0, -1, -1, 0)),
+        ):
+            table = tuple(zip(positions(graph, 0), sizes))
+            conditions = leads_from(minimal(graph), 100)
+            self.assertEqual(plain_right_sides(minimal(graph), 0, conditions, dict(table)), dict(table))
+            self.assertIs(check_sizes(graph, 0, table), False)
         self.assertIs(check_sizes((call("a", 0, 0),), 0, (((0, 0, ()), 1), ((0, 1, ()), 2))), True)
         for one, other in ((0, 1), (0, 2), (-1, 0), (-1, 2), (1, 0), (0, 0)):
             self.assertIs(check_sizes((call("a", 0, 0),), 0, (((0, 0, ()), one), ((0, 1, ()), other))), False)
